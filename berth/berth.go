@@ -3,8 +3,10 @@ package berth
 
 import (
 	"slices"
+	"strings"
 
 	"berth/api"
+	"berth/disk"
 	"berth/machine"
 )
 
@@ -12,6 +14,8 @@ import (
 type Berth struct {
 	machine api.Machine
 	devices [api.MaxKinds][]api.Device
+	boxes   []api.Box // by their names
+	disk    disk.Disk
 }
 
 // Start makes a berth with an empty disk (P3).
@@ -62,42 +66,68 @@ func isKind(number int) bool {
 
 // Admit gives a box what it needs (P5).
 func (b *Berth) Admit(name string, need api.Need) (api.Grant, api.Errno) {
-	return api.Grant{}, api.OK
+	place, there := b.find(name)
+	wanted := wantedOf(need)
+	switch {
+	case !isName(name):
+		return api.Grant{}, api.ErrName
+	case there:
+		return api.Grant{}, api.ErrTwice
+	case !mayBeWanted(wanted):
+		return api.Grant{}, api.ErrNeed
+	case len(b.boxes) >= api.MaxBoxes:
+		return api.Grant{}, api.ErrMany
+	}
+	grant, errno := b.choose(wanted)
+	if errno != api.OK {
+		return api.Grant{}, errno
+	}
+	// The name may be a piece of a long text, which is not to be kept with it.
+	box := api.Box{Name: strings.Clone(name), Grant: grant}
+	if errno := b.change(b.with(place, box)); errno != api.OK {
+		return api.Grant{}, errno
+	}
+	return copyGrant(grant), api.OK
 }
 
 // Release takes a box away (P6).
-func (b *Berth) Release(name string) api.Errno { return api.OK }
+func (b *Berth) Release(name string) api.Errno {
+	place, there := b.find(name)
+	if !there {
+		return api.ErrNone
+	}
+	return b.change(b.without(place))
+}
 
 // FailAt lets a disk operation fail (P8).
-func (b *Berth) FailAt(n int) {}
+func (b *Berth) FailAt(n int) { b.disk.FailAt(n) }
 
 // Boxes lists the boxes (P7).
-func (b *Berth) Boxes() []api.Box { return nil }
+func (b *Berth) Boxes() []api.Box {
+	boxes := slices.Clone(b.boxes)
+	for i := range boxes {
+		boxes[i].Grant = copyGrant(boxes[i].Grant)
+	}
+	return boxes
+}
 
 // Free tells what is free (P7).
 func (b *Berth) Free() api.Grant {
-	free := api.Grant{CPUs: machine.Unreserved(b.machine)}
+	free := api.Grant{CPUs: b.free(cpus)}
 	for kind := range b.devices {
-		free.Devices[kind] = b.healthy(kind)
+		free.Devices[kind] = b.free(firstKind + kind)
 	}
 	return free
 }
 
-// healthy lists the devices of a kind that may be given, by rising numbers.
-func (b *Berth) healthy(kind int) []int {
-	var numbers []int
-	for number, device := range b.devices[kind] {
-		if device.Healthy {
-			numbers = append(numbers, number)
-		}
-	}
-	return numbers
-}
-
 // Width tells how many nodes each resource of a need takes at the least (P7).
 func (b *Berth) Width(need api.Need) [4]int {
-	return b.leastWidths(wantedOf(need))
+	var widths [resources]int
+	for resource, verdict := range b.judge(wantedOf(need)) {
+		widths[resource] = verdict.Least
+	}
+	return widths
 }
 
 // Disk lists the operations that were done (P8).
-func (b *Berth) Disk() []api.Op { return nil }
+func (b *Berth) Disk() []api.Op { return b.disk.Done() }

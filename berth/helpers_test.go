@@ -100,3 +100,48 @@ func overwrite(list []int) {
 		whole[i] = -77
 	}
 }
+
+// admit has a box admitted, and looks at what it is given.
+func admit(t *testing.T, b *berth.Berth, name string, n api.Need, want api.Grant) {
+	t.Helper()
+	if got, errno := b.Admit(name, n); errno != api.OK || !sameGrant(got, want) {
+		t.Errorf("P5: Admit(%q, %v): %v, %d, want %v", name, n, got, errno, want)
+	}
+}
+
+func release(t *testing.T, b *berth.Berth, name string) {
+	t.Helper()
+	wantErrno(t, "P6: Release", b.Release(name), api.OK)
+}
+
+// refuse has a box refused, and looks whether anything has changed.
+func refuse(t *testing.T, b *berth.Berth, name string, n api.Need, want api.Errno) {
+	t.Helper()
+	boxes, free, ops := b.Boxes(), b.Free(), b.Disk()
+	got, errno := b.Admit(name, n)
+	if errno != want || !sameGrant(got, api.Grant{}) {
+		t.Errorf("P5: Admit(%q, %v): %v, %d, want %d", name, n, got, errno, want)
+	}
+	wantBoxes(t, "P1: after a refusal", b, boxes...)
+	wantFree(t, "P1: after a refusal", b, free)
+	if !slices.Equal(b.Disk(), ops) {
+		t.Errorf("P1: after a refusal the disk is %v, ahead of it %v", b.Disk(), ops)
+	}
+}
+
+func box(name string, g api.Grant) api.Box {
+	return api.Box{Name: name, Grant: g}
+}
+
+func sameBoxes(a, b []api.Box) bool {
+	return slices.EqualFunc(a, b, func(x, y api.Box) bool {
+		return x.Name == y.Name && sameGrant(x.Grant, y.Grant)
+	})
+}
+
+func wantBoxes(t *testing.T, what string, b *berth.Berth, want ...api.Box) {
+	t.Helper()
+	if got := b.Boxes(); !sameBoxes(got, want) {
+		t.Errorf("%s: boxes are %v, want %v", what, got, want)
+	}
+}

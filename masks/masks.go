@@ -1,5 +1,5 @@
-// Package masks: sets of nodes, their order, and how many nodes so many things
-// of one resource take.
+// Package masks: sets of nodes, their order, what resources say of them, and the
+// one that a policy takes.
 package masks
 
 import (
@@ -14,7 +14,8 @@ type Mask uint
 // NoMask is the answer where no mask has enough: no width, as a mask has a node.
 const NoMask = -1
 
-const all Mask = 1<<api.MaxNodes - 1
+// All is the mask of all nodes.
+const All Mask = 1<<api.MaxNodes - 1
 
 // Has tells whether a node is one of the mask's.
 func (m Mask) Has(node int) bool {
@@ -32,7 +33,7 @@ func (m Mask) Width() int {
 func InOrder() []Mask {
 	var masks []Mask
 	for width := 1; width <= api.MaxNodes; width++ {
-		for mask := Mask(1); mask <= all; mask++ {
+		for mask := Mask(1); mask <= All; mask++ {
 			if mask.Width() == width {
 				masks = append(masks, mask)
 			}

@@ -16,7 +16,7 @@ func TestInOrder(t *testing.T) {
 }
 
 func TestMaskHas(t *testing.T) {
-	for mask := Mask(0); mask <= all; mask++ {
+	for mask := Mask(0); mask <= All; mask++ {
 		number, width := Mask(0), 0
 		for node := range api.MaxNodes {
 			if mask.Has(node) {
@@ -29,7 +29,7 @@ func TestMaskHas(t *testing.T) {
 		}
 	}
 	for _, node := range []int{math.MinInt, -1, api.MaxNodes, 64, math.MaxInt} {
-		if all.Has(node) {
+		if All.Has(node) {
 			t.Errorf("the mask of all nodes has a node %d", node)
 		}
 	}
