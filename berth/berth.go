@@ -26,9 +26,23 @@ func Start(m api.Machine) (*Berth, api.Errno) {
 	return &Berth{machine: machine.Copy(m)}, api.OK
 }
 
-// Restart makes a berth out of what a disk holds (P9, P10).
+// Restart makes a berth out of what a disk holds; the second result tells that
+// this can't be believed (P9, P10).
 func Restart(m api.Machine, files []api.File, running []string) (*Berth, bool, api.Errno) {
-	return nil, false, api.OK
+	b, errno := Start(m)
+	if errno != api.OK {
+		return nil, false, errno
+	}
+	boxes, believed := b.recall(files)
+	if !believed {
+		return b, true, api.OK
+	}
+	b.boxes = boxes
+	if kept := runningOf(boxes, running); len(kept) < len(boxes) {
+		// This can't fail: nobody has called FailAt of b yet.
+		b.change(kept)
+	}
+	return b, false, api.OK
 }
 
 // Register tells which devices of a kind there are (P4).

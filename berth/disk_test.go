@@ -7,7 +7,6 @@ import (
 
 	"berth/api"
 	"berth/berth"
-	"berth/checkpoint"
 )
 
 // call is an Admit, or a Release if it needs nothing.
@@ -206,90 +205,5 @@ func TestDiskIsNewMemory(t *testing.T) {
 	release(t, b, "a")
 	if got := b.Disk(); !slices.Equal(got[:len(want)], want) {
 		t.Errorf("P2: the disk is %v, had been %v", got, want)
-	}
-}
-
-// epoch is a call that did operations: where they begin and end in the disk's
-// list, what the file says behind it, and whether it was done.
-type epoch struct {
-	first, end int
-	text       string
-	done       bool
-}
-
-// tell does the story with operations that fail, each call until it is done.
-func tell(t *testing.T, fails []int) (*berth.Berth, []epoch) {
-	t.Helper()
-	b, twin := stage(t), stage(t)
-	epochs := []epoch{{text: checkpoint.Text(nil), done: true}}
-	for _, c := range story() {
-		wantErrno(t, "P8: the twin", c.do(twin), api.OK)
-		most := len(fails) + 1 // tries: the last FailAt may fail one that comes later
-		for done := false; !done; most-- {
-			if len(fails) > 0 {
-				b.FailAt(fails[0])
-				fails = fails[1:]
-			}
-			first := len(b.Disk())
-			errno := c.do(b)
-			done = errno == api.OK
-			if !done && most < 0 {
-				t.Fatalf("P8: nothing is to fail any more, but %v is answered by %d", c, errno)
-			}
-			epochs = append(epochs, epoch{first, len(b.Disk()), checkpoint.Text(twin.Boxes()), done})
-		}
-	}
-	return b, epochs
-}
-
-// mayBeLeft lists what the file may say behind so many operations: what it said
-// behind the last call that was done with all of these, or behind one that came
-// later and of which there is one or more.
-func mayBeLeft(epochs []epoch, ops int) []string {
-	var texts []string
-	for _, e := range epochs {
-		switch {
-		case e.done && e.end <= ops:
-			texts = []string{e.text}
-		case e.first < ops && e.end > e.first:
-			texts = append(texts, e.text)
-		}
-	}
-	return texts
-}
-
-// Whenever all is lost, what is left is who had what behind the last change that
-// was done, or that with one that was under way.
-func TestWhatIsLeft(t *testing.T) {
-	for fail := range 6 {
-		for next := range 6 {
-			for times := range 3 {
-				fails := slices.Concat(slices.Repeat([]int{fail}, times), []int{next})
-				b, epochs := tell(t, fails)
-				checkLeft(t, b.Disk(), epochs)
-			}
-		}
-	}
-}
-
-func checkLeft(t *testing.T, ops []api.Op, epochs []epoch) {
-	t.Helper()
-	p := newPlatter()
-	for n := 0; ; n++ {
-		allowed := mayBeLeft(epochs, n)
-		for _, file := range p.left(checkpoint.File) {
-			// No file says that there are no boxes.
-			text := file.text
-			if !file.there {
-				text = checkpoint.Text(nil)
-			}
-			if !slices.Contains(allowed, text) {
-				t.Errorf("P8: behind %v may be left %q, want one of %q", ops[:n], text, allowed)
-			}
-		}
-		if n == len(ops) {
-			return
-		}
-		p.do(ops[n])
 	}
 }

@@ -2,6 +2,7 @@ package berth_test
 
 import (
 	"slices"
+	"strings"
 	"testing"
 
 	"berth/api"
@@ -144,4 +145,28 @@ func wantBoxes(t *testing.T, what string, b *berth.Berth, want ...api.Box) {
 	if got := b.Boxes(); !sameBoxes(got, want) {
 		t.Errorf("%s: boxes are %v, want %v", what, got, want)
 	}
+}
+
+// allNames are those that boxes have in these tests, in no order.
+var allNames = []string{"b", "a", "d", "c", "\x00", "e\n\"", "ab", "é", strings.Repeat("\xff", api.MaxName)}
+
+// restart makes a berth of files that can be believed.
+func restart(t *testing.T, m api.Machine, files []api.File, running []string) *berth.Berth {
+	t.Helper()
+	b, damaged, errno := berth.Restart(m, files, running)
+	if b == nil || damaged || errno != api.OK {
+		t.Fatalf("P9: Restart with %v: %v, %d, want a berth and false", files, damaged, errno)
+	}
+	return b
+}
+
+// thoseOf lists the boxes whose names stand in a list.
+func thoseOf(boxes []api.Box, names []string) []api.Box {
+	var those []api.Box
+	for _, box := range boxes {
+		if slices.Contains(names, box.Name) {
+			those = append(those, box)
+		}
+	}
+	return those
 }

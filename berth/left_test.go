@@ -2,6 +2,7 @@ package berth_test
 
 import (
 	"maps"
+	"slices"
 
 	"berth/api"
 )
@@ -40,8 +41,13 @@ type platter struct {
 	changes   []renaming
 }
 
-func newPlatter() *platter {
-	return &platter{now: map[string]*inode{}, safe: map[string]*inode{}}
+// platterOf is a disk that has these files, synced as their names are.
+func platterOf(files []api.File) *platter {
+	names := map[string]*inode{}
+	for _, file := range files {
+		names[file.Name] = &inode{file.Bytes, true}
+	}
+	return &platter{now: names, safe: maps.Clone(names)}
 }
 
 func (p *platter) rename(c renaming) {
@@ -68,18 +74,12 @@ func (p *platter) do(op api.Op) {
 	}
 }
 
-// leftover is what may be left of a file: its bytes, if it is there.
-type leftover struct {
-	text  string
-	there bool
-}
-
-// left lists all that may be left of the file of a name.
-func (p *platter) left(name string) []leftover {
-	var all []leftover
+// left lists all that may be left of the disk, each a list of files.
+func (p *platter) left() [][]api.File {
+	var all [][]api.File
 	names := maps.Clone(p.safe)
 	for i := 0; ; i++ {
-		all = append(all, contents(names[name])...)
+		all = append(all, contents(names)...)
 		if i == len(p.changes) {
 			return all
 		}
@@ -87,14 +87,27 @@ func (p *platter) left(name string) []leftover {
 	}
 }
 
-func contents(file *inode) []leftover {
-	if file == nil {
-		return []leftover{{}}
+// contents lists all that may be left of the files of these names.
+func contents(names map[string]*inode) [][]api.File {
+	all := [][]api.File{nil}
+	for _, name := range slices.Sorted(maps.Keys(names)) {
+		var longer [][]api.File
+		for _, files := range all {
+			for _, bytes := range names[name].left() {
+				file := api.File{Name: name, Bytes: bytes}
+				longer = append(longer, append(slices.Clone(files), file))
+			}
+		}
+		all = longer
 	}
-	all := []leftover{{file.bytes, true}}
-	for i := range file.bytes {
+	return all
+}
+
+func (file *inode) left() []string {
+	all := []string{file.bytes}
+	for i := range len(file.bytes) {
 		if !file.synced {
-			all = append(all, leftover{file.bytes[:i], true})
+			all = append(all, file.bytes[:i])
 		}
 	}
 	return all

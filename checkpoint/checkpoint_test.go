@@ -2,7 +2,6 @@ package checkpoint
 
 import (
 	"slices"
-	"strconv"
 	"strings"
 	"testing"
 
@@ -20,53 +19,14 @@ func TestText(t *testing.T) {
 		boxes []api.Box
 		want  string
 	}{
-		{nil, "boxes 0\n"},
-		{[]api.Box{box("a", []int{0, 23}, []int{1}, nil, []int{2, 3, 15})}, "boxes 1\n0,23 1 - 2,3,15 \"a\"\n"},
-		{[]api.Box{box("", nil, []int{}), box("\n \"\xff", []int{5})}, "boxes 2\n- - - - \"\"\n5 - - - \"\\n \\\"\\xff\"\n"},
+		{nil, "boxes 0 cbf29ce484222325\n"},
+		{[]api.Box{box("a", []int{0, 23}, []int{1}, nil, []int{2, 3, 15})}, "boxes 1 1c0240a6c5fed9e6\n0,23 1 - 2,3,15 \"a\"\n"},
+		{[]api.Box{box("", nil, []int{}), box("\n \"\xff", []int{5})}, "boxes 2 3c078b5a044566bf\n- - - - \"\"\n5 - - - \"\\n \\\"\\xff\"\n"},
 	} {
 		if got := Text(c.boxes); got != c.want {
 			t.Errorf("P8: the text of %v is %q, want %q", c.boxes, got, c.want)
 		}
 	}
-}
-
-// read takes a text apart again, to show that all of the boxes is in it.
-func read(t *testing.T, text string) []api.Box {
-	t.Helper()
-	lines := strings.Split(strings.TrimSuffix(text, "\n"), "\n")
-	var boxes []api.Box
-	for _, line := range lines[1:] {
-		fields := strings.SplitN(line, " ", 2+api.MaxKinds)
-		name, err := strconv.Unquote(fields[1+api.MaxKinds])
-		if err != nil {
-			t.Fatalf("P8: the line %q has no name: %v", line, err)
-		}
-		b := box(name, readList(t, fields[0]))
-		for kind := range api.MaxKinds {
-			b.Grant.Devices[kind] = readList(t, fields[1+kind])
-		}
-		boxes = append(boxes, b)
-	}
-	if lines[0] != "boxes "+strconv.Itoa(len(boxes)) {
-		t.Errorf("P8: the text of %d boxes begins with %q", len(boxes), lines[0])
-	}
-	return boxes
-}
-
-func readList(t *testing.T, field string) []int {
-	t.Helper()
-	if field == "-" {
-		return nil
-	}
-	var numbers []int
-	for word := range strings.SplitSeq(field, ",") {
-		number, err := strconv.Atoi(word)
-		if err != nil {
-			t.Fatalf("P8: the list %q: %v", field, err)
-		}
-		numbers = append(numbers, number)
-	}
-	return numbers
 }
 
 func same(a, b api.Box) bool {
@@ -75,6 +35,23 @@ func same(a, b api.Box) bool {
 		ok = ok && slices.Equal(a.Grant.Devices[kind], b.Grant.Devices[kind])
 	}
 	return ok
+}
+
+func wantRead(t *testing.T, text string, want []api.Box) {
+	t.Helper()
+	if got, ok := Read(text); !ok || !slices.EqualFunc(got, want, same) {
+		t.Errorf("P9: out of %q come %v, %v, want %v", text, got, ok, want)
+	}
+}
+
+func TestCheckSum(t *testing.T) {
+	for text, want := range map[string]uint64{
+		"": 0xcbf29ce484222325, "a": 0xaf63dc4c8601ec8c, "foobar": 0x85944171f73967e8,
+	} {
+		if got := checkSum(text); got != want {
+			t.Errorf("the check sum of %q is %x, want %x", text, got, want)
+		}
+	}
 }
 
 func TestAllIsInTheText(t *testing.T) {
@@ -88,7 +65,5 @@ func TestAllIsInTheText(t *testing.T) {
 	} {
 		boxes = append(boxes, box(name, nil, []int{3}), box(name, []int{1, 2}, []int{3}, []int{4, 5}, []int{6}))
 	}
-	if got := read(t, Text(boxes)); !slices.EqualFunc(got, boxes, same) {
-		t.Errorf("P8: out of the text come %v, want %v", got, boxes)
-	}
+	wantRead(t, Text(boxes), boxes)
 }

@@ -69,9 +69,9 @@ func (d *Disk) Replace(name, bytes string) error {
 }
 
 // replacing lists the operations of Replace: the new bytes go by another name
-// until they are safe, as a Write takes the old ones away at once. The Sync stands ahead of the Rename
-// because a Rename may last where the bytes of a Write do not; the SyncDir ends
-// it because till then the Rename may be lost.
+// until they are safe, as a Write takes the old ones away at once. The Sync stands
+// ahead of the Rename because a Rename may last where the bytes of a Write do not;
+// the SyncDir ends it because till then the Rename may be lost.
 func replacing(name, bytes string) []api.Op {
 	fresh := name + ".new"
 	return []api.Op{
